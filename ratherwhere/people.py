@@ -5,6 +5,9 @@ MOST_PEOPLE = 5
 LEAST_WORTH = -20
 MOST_WORTH = 20
 
+WELCOME = 1
+LET_GO = 2
+
 
 def worth_is_told(n, worth):
     """Whether n is a number of people, and worth tells for each of them what each is worth."""
@@ -55,6 +58,34 @@ def has_with(n, worth, numbered, i, k):
     return total
 
 
+def is_welcome(n, worth, numbered, i, k):
+    """Whether nobody of group k, which person i isn't in, would have less if person i came."""
+    for j in range(n):
+        if numbered[j] == k and worth[j * n + i] < 0:
+            return False
+    return True
+
+
+def is_let_go(n, worth, numbered, i):
+    """Whether nobody of person i's group would have less if person i left."""
+    for j in range(n):
+        if j != i and numbered[j] == numbered[i] and worth[j * n + i] > 0:
+            return False
+    return True
+
+
+def may_go(n, w, worth, numbered, i, k):
+    """Whether person i may go to group k (or be alone, by the number behind all groups) by way w."""
+    # One's own group, and being alone when alone already, are never more than what one has: no moves.
+    if has_with(n, worth, numbered, i, k) <= has_with(n, worth, numbered, i, numbered[i]):
+        return False
+    if w >= WELCOME and not is_welcome(n, worth, numbered, i, k):
+        return False
+    if w >= LET_GO and not is_let_go(n, worth, numbered, i):
+        return False
+    return True
+
+
 def worths(n, worth, groups):
     """How many groups; then each person's group; then what each has."""
     if not worth_is_told(n, worth):
@@ -64,3 +95,21 @@ def worths(n, worth, groups):
     numbered = number_anew(groups)
     has = [has_with(n, worth, numbered, i, numbered[i]) for i in range(n)]
     return [how_many(numbered)] + numbered + has
+
+
+def moves(n, w, worth, groups):
+    """How many moves there are by way w; then each: who, and to which group."""
+    if not worth_is_told(n, worth):
+        return [NOT_AS_TOLD]
+    if not groups_are_told(n, groups):
+        return [NOT_AS_TOLD]
+    if w > LET_GO:
+        return [NOT_AS_TOLD]
+    numbered = number_anew(groups)
+    alone = how_many(numbered)
+    found = []
+    for i in range(n):
+        for k in range(alone + 1):
+            if may_go(n, w, worth, numbered, i, k):
+                found.extend([i, k])
+    return [len(found) // 2] + found
