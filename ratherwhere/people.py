@@ -86,6 +86,29 @@ def may_go(n, w, worth, numbered, i, k):
     return True
 
 
+def find_moves(n, w, worth, numbered):
+    """Each move there is by way w, as two numbers: who, and to which group."""
+    found = []
+    for i in range(n):
+        for k in range(how_many(numbered) + 1):
+            if may_go(n, w, worth, numbered, i, k):
+                found.extend([i, k])
+    return found
+
+
+def ways_to_be(n):
+    """All ways for n people to be in groups, in order by the first person whose group's number differs."""
+    ways = [[0]]
+    for person in range(1, n):
+        longer = []
+        for way in ways:
+            # Up to the number behind all groups, and no further: so groups stay numbered as they first come.
+            for k in range(how_many(way) + 1):
+                longer.append(way + [k])
+        ways = longer
+    return ways
+
+
 def worths(n, worth, groups):
     """How many groups; then each person's group; then what each has."""
     if not worth_is_told(n, worth):
@@ -105,11 +128,17 @@ def moves(n, w, worth, groups):
         return [NOT_AS_TOLD]
     if w > LET_GO:
         return [NOT_AS_TOLD]
-    numbered = number_anew(groups)
-    alone = how_many(numbered)
-    found = []
-    for i in range(n):
-        for k in range(alone + 1):
-            if may_go(n, w, worth, numbered, i, k):
-                found.extend([i, k])
+    found = find_moves(n, w, worth, number_anew(groups))
     return [len(found) // 2] + found
+
+
+def rests(n, w, worth):
+    """In how many of all ways to be in groups they're at rest by way w; then the first of these."""
+    if not worth_is_told(n, worth):
+        return [NOT_AS_TOLD]
+    if w > LET_GO:
+        return [NOT_AS_TOLD]
+    at_rest = [way for way in ways_to_be(n) if len(find_moves(n, w, worth, way)) == 0]
+    if len(at_rest) == 0:
+        return [0]
+    return [len(at_rest)] + at_rest[0]

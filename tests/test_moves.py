@@ -1,50 +1,11 @@
 import itertools
 import unittest
 
+from handed_in import HandedIn
+from meaning import WAYS, moves_by_meaning
 from ratherwhere.people import moves
+from samples import FIVE, FOUR, THREE, with_own
 from wrong import BEYOND, wrong_inputs
-
-WAYS = (0, 1, 2)
-THREE = [0, 3, -1,
-         2, 0, 5,
-         4, -6, 0]
-# 0 and 1 like each other, 2 likes all, 3 likes 2 alone.
-FOUR = [0, 5, -2, 0,
-        5, 0, -1, 0,
-        3, 4, 0, 1,
-        -3, -3, 6, 0]
-# Each likes the next one, dislikes the one before, and doesn't mind the others.
-FIVE = [0, 7, 0, 0, -2,
-        -2, 0, 7, 0, 0,
-        0, -2, 0, 7, 0,
-        0, 0, -2, 0, 7,
-        7, 0, 0, -2, 0]
-
-
-def went(groups, i, k):
-    """The groups once person i went to group k, by numbers that need not be as they first come."""
-    return groups[:i] + [k] + groups[i + 1:]
-
-
-def has_each(n, worth, groups):
-    return [sum(worth[i * n + j] for j in range(n) if j != i and groups[j] == groups[i]) for i in range(n)]
-
-
-def moves_by_meaning(n, w, worth, told):
-    """What the document says, by comparing what everybody has before and after each move."""
-    first_come = list(dict.fromkeys(told))
-    groups = [first_come.index(number) for number in told]
-    before = has_each(n, worth, groups)
-    found = []
-    for i, k in itertools.product(range(n), range(len(first_come) + 1)):
-        after = has_each(n, worth, went(groups, i, k))
-        there = [j for j in range(n) if j != i and groups[j] == k]
-        left = [j for j in range(n) if j != i and groups[j] == groups[i]]
-        welcome = all(after[j] >= before[j] for j in there)
-        let_go = all(after[j] >= before[j] for j in left)
-        if k != groups[i] and after[i] > before[i] and (w < 1 or welcome) and (w < 2 or let_go):
-            found.append((i, k))
-    return [len(found)] + [number for move in found for number in move]
 
 
 class MovesTest(unittest.TestCase):
@@ -148,9 +109,7 @@ class NamedEdges(MovesTest):
 
     def test_what_one_is_worth_to_oneself_means_nothing(self):
         for own in (-20, -1, 1, 20):
-            worth = list(THREE)
-            for i in range(3):
-                worth[4 * i] = own
+            worth = with_own(3, THREE, own)
             for w, groups in itertools.product(WAYS, itertools.product(range(3), repeat=3)):
                 self.assertEqual(moves(3, w, worth, list(groups)), moves(3, w, THREE, list(groups)))
 
@@ -200,8 +159,8 @@ class WrongInputs(unittest.TestCase):
 class WhatIsHandedIn(unittest.TestCase):
     def test_unchanged(self):
         for w, groups in itertools.product((0, 1, 2, 3), itertools.product(range(4), repeat=3)):
-            worth = list(THREE)
-            told = list(groups)
+            worth = HandedIn(THREE)
+            told = HandedIn(groups)
             moves(3, w, worth, told)
             self.assertEqual(worth, THREE)
             self.assertEqual(told, list(groups))
@@ -209,9 +168,9 @@ class WhatIsHandedIn(unittest.TestCase):
     def test_unchanged_where_refused(self):
         for what, n, worth, groups in wrong_inputs():
             with self.subTest(what):
-                worth_before, groups_before = list(worth), list(groups)
-                moves(n, 2, worth, groups)
-                self.assertEqual((worth, groups), (worth_before, groups_before))
+                worth_in, groups_in = HandedIn(worth), HandedIn(groups)
+                moves(n, 2, worth_in, groups_in)
+                self.assertEqual((worth_in, groups_in), (worth, groups))
 
 
 class WhatIsAnswered(unittest.TestCase):

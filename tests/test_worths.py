@@ -1,6 +1,7 @@
 import itertools
 import unittest
 
+from handed_in import HandedIn
 from ratherwhere.people import worths
 from wrong import wrong_inputs
 
@@ -101,8 +102,8 @@ class WrongInputs(unittest.TestCase):
 class WhatIsHandedIn(unittest.TestCase):
     def test_unchanged(self):
         for groups in itertools.product(range(4), repeat=3):
-            worth = list(THREE)
-            told = list(groups)
+            worth = HandedIn(THREE)
+            told = HandedIn(groups)
             worths(3, worth, told)
             self.assertEqual(worth, THREE)
             self.assertEqual(told, list(groups))
@@ -110,9 +111,9 @@ class WhatIsHandedIn(unittest.TestCase):
     def test_unchanged_where_refused(self):
         for what, n, worth, groups in wrong_inputs():
             with self.subTest(what):
-                worth_before, groups_before = list(worth), list(groups)
-                worths(n, worth, groups)
-                self.assertEqual((worth, groups), (worth_before, groups_before))
+                worth_in, groups_in = HandedIn(worth), HandedIn(groups)
+                worths(n, worth_in, groups_in)
+                self.assertEqual((worth_in, groups_in), (worth, groups))
 
 
 class WhatIsAnswered(unittest.TestCase):
