@@ -1,6 +1,7 @@
 """The calls: each takes whole numbers and lists, changes none of them, and answers a list of whole numbers."""
 
 NOT_AS_TOLD = -22
+NOT_THERE = -2
 MOST_PEOPLE = 5
 LEAST_WORTH = -20
 MOST_WORTH = 20
@@ -74,10 +75,15 @@ def is_let_go(n, worth, numbered, i):
     return True
 
 
+def would_rather_go(n, worth, numbered, i, k):
+    """Whether person i would rather go to group k (or be alone, by the number behind all groups)."""
+    # One's own group, and being alone when alone already, are never more than what one has.
+    return has_with(n, worth, numbered, i, k) > has_with(n, worth, numbered, i, numbered[i])
+
+
 def may_go(n, w, worth, numbered, i, k):
     """Whether person i may go to group k (or be alone, by the number behind all groups) by way w."""
-    # One's own group, and being alone when alone already, are never more than what one has: no moves.
-    if has_with(n, worth, numbered, i, k) <= has_with(n, worth, numbered, i, numbered[i]):
+    if not would_rather_go(n, worth, numbered, i, k):
         return False
     if w >= WELCOME and not is_welcome(n, worth, numbered, i, k):
         return False
@@ -142,3 +148,18 @@ def rests(n, w, worth):
     if len(at_rest) == 0:
         return [0]
     return [len(at_rest)] + at_rest[0]
+
+
+def go(n, i, k, worth, groups):
+    """1 if person i would rather go to group k, else 0; then the groups once they went, and what they have then."""
+    if not worth_is_told(n, worth):
+        return [NOT_AS_TOLD]
+    if not groups_are_told(n, groups):
+        return [NOT_AS_TOLD]
+    numbered = number_anew(groups)
+    if i >= n or k > how_many(numbered):
+        return [NOT_THERE]
+    rather = 1 if would_rather_go(n, worth, numbered, i, k) else 0
+    # Person i may have been the first of a group, or the last to leave it: so its number may no longer fit.
+    went = number_anew(numbered[:i] + [k] + numbered[i + 1:])
+    return [rather] + went + [has_with(n, worth, numbered, i, k)]

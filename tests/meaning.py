@@ -45,3 +45,11 @@ def ways_by_meaning(n):
 def rests_by_meaning(n, w, worth):
     at_rest = [way for way in ways_by_meaning(n) if moves_by_meaning(n, w, worth, way) == [0]]
     return [len(at_rest)] + (at_rest[0] if at_rest else [])
+
+
+def go_by_meaning(n, i, k, worth, told):
+    groups = as_first_come(told)
+    gone = went(groups, i, k)
+    before = has_each(n, worth, groups)[i]
+    after = has_each(n, worth, gone)[i]
+    return [1 if after > before else 0] + as_first_come(gone) + [after]
