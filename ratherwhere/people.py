@@ -81,6 +81,19 @@ def would_rather_go(n, worth, numbered, i, k):
     return has_with(n, worth, numbered, i, k) > has_with(n, worth, numbered, i, numbered[i])
 
 
+def best_for(n, worth, numbered, i):
+    """In which group (or alone, by the number behind all groups) person i would have most, and what they'd have."""
+    where = numbered[i]
+    most = has_with(n, worth, numbered, i, where)
+    for k in range(how_many(numbered) + 1):
+        has = has_with(n, worth, numbered, i, k)
+        # Only what is more takes the place: so one's own stays if none is better, and the least of like ones.
+        if has > most:
+            where = k
+            most = has
+    return [where, most]
+
+
 def may_go(n, w, worth, numbered, i, k):
     """Whether person i may go to group k (or be alone, by the number behind all groups) by way w."""
     if not would_rather_go(n, worth, numbered, i, k):
@@ -163,3 +176,14 @@ def go(n, i, k, worth, groups):
     # Person i may have been the first of a group, or the last to leave it: so its number may no longer fit.
     went = number_anew(numbered[:i] + [k] + numbered[i + 1:])
     return [rather] + went + [has_with(n, worth, numbered, i, k)]
+
+
+def best(n, i, worth, groups):
+    """In which group (or alone) person i would have most; then what they'd have."""
+    if not worth_is_told(n, worth):
+        return [NOT_AS_TOLD]
+    if not groups_are_told(n, groups):
+        return [NOT_AS_TOLD]
+    if i >= n:
+        return [NOT_THERE]
+    return best_for(n, worth, number_anew(groups), i)

@@ -53,3 +53,11 @@ def go_by_meaning(n, i, k, worth, told):
     before = has_each(n, worth, groups)[i]
     after = has_each(n, worth, gone)[i]
     return [1 if after > before else 0] + as_first_come(gone) + [after]
+
+
+def best_by_meaning(n, i, worth, told):
+    """By what person i has once they went to each group, and alone."""
+    groups = as_first_come(told)
+    there = [has_each(n, worth, went(groups, i, k))[i] for k in range(len(set(told)) + 1)]
+    own = groups[i]
+    return [own if there[own] == max(there) else there.index(max(there)), max(there)]

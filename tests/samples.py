@@ -14,6 +14,8 @@ FIVE = [0, 7, 0, 0, -2,
         0, -2, 0, 7, 0,
         0, 0, -2, 0, 7,
         7, 0, 0, -2, 0]
+# Of each number of people one.
+SAMPLES = ((1, [7]), (2, [0, 7, -4, 0]), (3, THREE), (4, FOUR), (5, FIVE))
 
 
 def with_own(n, worth, own):

@@ -4,10 +4,8 @@ import unittest
 from handed_in import HandedIn
 from meaning import as_first_come, go_by_meaning
 from ratherwhere.people import go, worths
-from samples import FIVE, FOUR, THREE, many_worths, with_own
+from samples import FIVE, FOUR, SAMPLES, THREE, many_worths, with_own
 from wrong import BEYOND, wrong_inputs
-
-SAMPLES = ((1, [7]), (2, [0, 7, -4, 0]), (3, THREE), (4, FOUR), (5, FIVE))
 
 
 class GoTest(unittest.TestCase):
