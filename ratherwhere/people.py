@@ -10,9 +10,14 @@ WELCOME = 1
 LET_GO = 2
 
 
+def people_are_told(n):
+    """Whether n is a number of people."""
+    return n >= 1 and n <= MOST_PEOPLE
+
+
 def worth_is_told(n, worth):
     """Whether n is a number of people, and worth tells for each of them what each is worth."""
-    if n < 1 or n > MOST_PEOPLE:
+    if not people_are_told(n):
         return False
     if len(worth) != n * n:
         return False
@@ -187,3 +192,10 @@ def best(n, i, worth, groups):
     if i >= n:
         return [NOT_THERE]
     return best_for(n, worth, number_anew(groups), i)
+
+
+def all_ways(n):
+    """How many ways there are to be in groups."""
+    if not people_are_told(n):
+        return [NOT_AS_TOLD]
+    return [len(ways_to_be(n))]

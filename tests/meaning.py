@@ -3,6 +3,8 @@
 import itertools
 
 WAYS = (0, 1, 2)
+# Of n people how many ways there are to be in groups: Bell's numbers.
+HOW_MANY_WAYS = {1: 1, 2: 2, 3: 5, 4: 15, 5: 52}
 
 
 def as_first_come(told):

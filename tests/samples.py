@@ -14,6 +14,12 @@ FIVE = [0, 7, 0, 0, -2,
         0, -2, 0, 7, 0,
         0, 0, -2, 0, 7,
         7, 0, 0, -2, 0]
+# Each likes the next one, doesn't mind the one before, and can't stand the others.
+RESTLESS = [0, 1, -3, -3, 0,
+            0, 0, 1, -3, -3,
+            -3, 0, 0, 1, -3,
+            -3, -3, 0, 0, 1,
+            1, -3, -3, 0, 0]
 # Of each number of people one.
 SAMPLES = ((1, [7]), (2, [0, 7, -4, 0]), (3, THREE), (4, FOUR), (5, FIVE))
 

@@ -2,18 +2,10 @@ import itertools
 import unittest
 
 from handed_in import HandedIn
-from meaning import WAYS, rests_by_meaning
+from meaning import HOW_MANY_WAYS, WAYS, rests_by_meaning
 from ratherwhere.people import rests
-from samples import FIVE, FOUR, THREE, many_worths, with_own
+from samples import FIVE, FOUR, RESTLESS, THREE, many_worths, with_own
 from wrong import BEYOND, wrong_n, wrong_worth
-
-HOW_MANY_WAYS = {1: 1, 2: 2, 3: 5, 4: 15, 5: 52}
-# Each likes the next one, doesn't mind the one before, and can't stand the others.
-RESTLESS = [0, 1, -3, -3, 0,
-            0, 0, 1, -3, -3,
-            -3, 0, 0, 1, -3,
-            -3, -3, 0, 0, 1,
-            1, -3, -3, 0, 0]
 
 
 def wrong_worths():
